@@ -16,6 +16,7 @@ MOST_DRAWN = 60
 MOST_AHEAD = 1000
 LONGEST_ROW = 6
 MOST_COUNTED = 8
+MOST_LOOKED_BACK = 20
 
 
 class Urn:
@@ -62,14 +63,19 @@ def orders(wanted):
     return ways
 
 
-def weight_of_row(urn, colours):
+def weight_of_row(balls, more, colours):
     # The urn itself isn't drawn from: the row is only thought of.
-    balls = list(urn.balls)
+    there = list(balls)
     weight = 1
     for i in colours:
-        weight = weight * balls[i]
-        balls[i] = balls[i] + urn.more
+        weight = weight * there[i]
+        there[i] = there[i] + more
     return weight
+
+
+def likely_row(balls, more, colours):
+    """The answer that tells how likely just this row is, from so many balls of each on."""
+    return fraction(weight_of_row(balls, more, colours), rising(sum(balls), more, len(colours)))
 
 
 def weight_of_counts(balls, more, wanted):
@@ -87,8 +93,21 @@ def weight_of_just(urn, i, n, k):
     return weight_of_counts((urn.balls[i], others), urn.more, (k, n - k))
 
 
+def weights_by_number(urn, i, n):
+    """For 0 to n how heavy all rows of n draws with so many of colour i are, together."""
+    return [weight_of_just(urn, i, n, k) for k in range(n + 1)]
+
+
 def weight_of_all(urn, n):
     return rising(sum(urn.balls), urn.more, n)
+
+
+def balls_at_first(urn):
+    """How many balls of each colour there were before anything was drawn."""
+    balls = list(urn.balls)
+    for i in urn.drawn:
+        balls[i] = balls[i] - urn.more
+    return balls
 
 
 def refusal_of_colour(urn, i):
@@ -100,10 +119,10 @@ def refusal_of_colour(urn, i):
     return 0
 
 
-def refusal_of_counted(urn, i, n):
-    """Likewise for a call that counts how many of n draws have colour i."""
+def refusal_of_draws(urn, i, n, most):
+    """Likewise for a call that asks for colour i in n draws, which may be most at most."""
     refusal = refusal_of_colour(urn, i)
-    if refusal == 0 and n > MOST_COUNTED:
+    if refusal == 0 and n > most:
         return OUT_OF_RANGE
     return refusal
 
@@ -159,11 +178,10 @@ def chance(urn, given):
 
 
 def nth(urn, given):
-    n = given[1]
-    refusal = refusal_of_colour(urn, given[0])
+    refusal = refusal_of_draws(urn, given[0], given[1], MOST_AHEAD)
     if refusal < 0:
         return [refusal]
-    if n < 1 or n > MOST_AHEAD:
+    if given[1] == 0:
         return [OUT_OF_RANGE]
     # Each draw is as likely as the first, so n is only looked at for its refusal.
     return chance(urn, given)
@@ -178,7 +196,7 @@ def row(urn, given):
     colours = given[1:n + 1]
     if any([i >= len(urn.balls) for i in colours]):
         return [OUT_OF_RANGE]
-    return fraction(weight_of_row(urn, colours), weight_of_all(urn, n))
+    return likely_row(urn.balls, urn.more, colours)
 
 
 def counts(urn, given):
@@ -195,7 +213,7 @@ def just(urn, given):
     i = given[0]
     n = given[1]
     k = given[2]
-    refusal = refusal_of_counted(urn, i, n)
+    refusal = refusal_of_draws(urn, i, n, MOST_COUNTED)
     if refusal < 0:
         return [refusal]
     if k > n:
@@ -206,10 +224,87 @@ def just(urn, given):
 def all_rows(urn, given):
     i = given[0]
     n = given[1]
-    refusal = refusal_of_counted(urn, i, n)
+    refusal = refusal_of_draws(urn, i, n, MOST_COUNTED)
     if refusal < 0:
         return [refusal]
-    return [n + 1] + [weight_of_just(urn, i, n, k) for k in range(n + 1)]
+    return [n + 1] + weights_by_number(urn, i, n)
+
+
+def two(urn, given):
+    for i in given:
+        refusal = refusal_of_colour(urn, i)
+        if refusal < 0:
+            return [refusal]
+    return likely_row(urn.balls, urn.more, given)
+
+
+def mean(urn, given):
+    i = given[0]
+    n = given[1]
+    refusal = refusal_of_draws(urn, i, n, MOST_AHEAD)
+    if refusal < 0:
+        return [refusal]
+    # Each draw is as likely as the first, so each adds as much to the average.
+    return fraction(n * urn.balls[i], sum(urn.balls))
+
+
+def then(urn, given):
+    i = given[0]
+    n = given[1]
+    refusal = refusal_of_draws(urn, i, n, MOST_AHEAD)
+    if refusal < 0:
+        return [refusal]
+    # On the average a colour keeps its part of all balls, and how many these will be is certain.
+    total = sum(urn.balls)
+    return fraction(urn.balls[i] * (total + urn.more * n), total)
+
+
+def likeliest(urn, given):
+    i = given[0]
+    n = given[1]
+    refusal = refusal_of_draws(urn, i, n, MOST_COUNTED)
+    if refusal < 0:
+        return [refusal]
+    weights = weights_by_number(urn, i, n)
+    return [weights.index(max(weights))]
+
+
+def one(urn, given):
+    n = given[0]
+    if sum(urn.balls) == 0:
+        return [NO_BALLS]
+    if n > MOST_COUNTED:
+        return [OUT_OF_RANGE]
+    # The row of no draws fits every colour, and must not be counted once for each.
+    if n == 0:
+        return fraction(1, 1)
+    return fraction(sum([rising(start, urn.more, n) for start in urn.balls]), weight_of_all(urn, n))
+
+
+def set_more(urn, given):
+    if len(urn.drawn) > 0:
+        return [ALREADY_DRAWN]
+    if given[0] > MOST_MORE:
+        return [OUT_OF_RANGE]
+    before = urn.more
+    urn.more = given[0]
+    return [before]
+
+
+def was(urn, given):
+    return [len(urn.drawn)] + urn.drawn
+
+
+def ago(urn, given):
+    if sum(urn.balls) == 0:
+        return [NO_BALLS]
+    if len(urn.drawn) > MOST_LOOKED_BACK:
+        return [FULL]
+    return likely_row(balls_at_first(urn), urn.more, urn.drawn)
+
+
+def told(urn, given):
+    return [len(urn.balls)] + urn.balls + [urn.more, len(urn.drawn)]
 
 
 # By a call's number: how many numbers it is handed, and what answers it.
@@ -224,6 +319,15 @@ CALLS = (
     (4, counts),
     (3, just),
     (2, all_rows),
+    (2, two),
+    (2, mean),
+    (2, then),
+    (2, likeliest),
+    (1, one),
+    (1, set_more),
+    (0, was),
+    (0, ago),
+    (0, told),
 )
 BEGIN = 0
 

@@ -18,6 +18,15 @@ NUMBERS = {
     "counts": 7,
     "just": 8,
     "all": 9,
+    "two": 10,
+    "mean": 11,
+    "then": 12,
+    "likeliest": 13,
+    "one": 14,
+    "more": 15,
+    "was": 16,
+    "ago": 17,
+    "told": 18,
 }
 
 
@@ -106,6 +115,12 @@ def likely(balls, more, n, fits):
     rows = all_weights(balls, more, n)
     fitting = sum(heavy for colours, heavy in rows if fits(colours))
     return Fraction(fitting, sum(heavy for colours, heavy in rows))
+
+
+def average(balls, more, n, worth):
+    """What a row of n draws is worth on the average, row by row."""
+    rows = all_weights(balls, more, n)
+    return Fraction(sum(heavy * worth(colours) for colours, heavy in rows), sum(heavy for colours, heavy in rows))
 
 
 # Urns of every more and of one to four colours, some with a colour of which there's none.

@@ -1,4 +1,4 @@
-"""counts, just and all."""
+"""counts, just, all and likeliest."""
 
 import unittest
 from fractions import Fraction
@@ -174,6 +174,78 @@ class All(unittest.TestCase):
         self.assertEqual(last(*urn(1, 0), ("all", 1, 8)), [-6])
         self.assertEqual(last(*urn(1, 0), ("all", 0, 9)), [-6])
         self.assertEqual(last(*urn(1, 1), ("all", 1, 9)), [-2])
+
+
+class Likeliest(unittest.TestCase):
+    def test_ordinary(self):
+        self.assertEqual(last(*urn(0, 3, 1), ("likeliest", 0, 4)), [3])
+        self.assertEqual(last(*urn(0, 1, 1), ("likeliest", 0, 4)), [2])
+        self.assertEqual(last(*urn(1, 5, 2, 1), ("likeliest", 1, 8)), [1])
+
+    def test_as_heavy_as_all_rows_together(self):
+        for more, balls in URNS:
+            for i in range(len(balls)):
+                for n in range(5):
+                    heaviest = [0] * (n + 1)
+                    for colours, heavy in all_weights(balls, more, n):
+                        heaviest[colours.count(i)] += heavy
+                    right = min(range(n + 1), key=lambda k: (-heaviest[k], k))
+                    with self.subTest(more=more, balls=balls, i=i, n=n):
+                        self.assertEqual(last(*urn(more, *balls), ("likeliest", i, n)), [right])
+
+    def test_the_greatest_of_all(self):
+        for more, balls in URNS:
+            for i in range(len(balls)):
+                for n in range(9):
+                    heavy, found = ask(*urn(more, *balls), ("all", i, n), ("likeliest", i, n))[-2:]
+                    self.assertEqual(len(found), 1)
+                    k = found[0]
+                    self.assertTrue(all(other < heavy[k + 1] for other in heavy[1:k + 1]))
+                    self.assertTrue(all(other <= heavy[k + 1] for other in heavy[k + 1:]))
+
+    def test_of_like_ones_the_least(self):
+        self.assertEqual(last(*urn(0, 1, 1), ("likeliest", 0, 3)), [1])
+        self.assertEqual(last(*urn(0, 1, 1), ("likeliest", 0, 1)), [0])
+        for n in range(9):
+            self.assertEqual(last(*urn(1, 1, 1), ("likeliest", 1, n)), [0])
+        # Where more is above 1 from one of each, both ends are as likely, and likelier than what lies between.
+        self.assertEqual(last(*urn(5, 1, 1), ("likeliest", 0, 8)), [0])
+
+    def test_no_draws(self):
+        self.assertEqual(last(*urn(5, 1, 1), ("likeliest", 0, 0)), [0])
+        self.assertEqual(last(*urn(5, 1), ("likeliest", 0, 0)), [0])
+
+    def test_eight_draws(self):
+        self.assertEqual(ask(*urn(0, 10, 1), ("likeliest", 0, 8), ("likeliest", 1, 8))[-2:], [[8], [0]])
+
+    def test_one_colour(self):
+        for n in range(9):
+            self.assertEqual(last(*urn(5, 3), ("likeliest", 0, n)), [n])
+
+    def test_a_colour_of_which_there_is_none(self):
+        for n in range(9):
+            self.assertEqual(last(*urn(5, 3, 0), ("likeliest", 1, n)), [0])
+
+    def test_from_now_on(self):
+        self.assertEqual(ask(*urn(1, 1, 1), ("likeliest", 0, 5), *draws(0, 0), ("likeliest", 0, 5), ("back",),
+                             ("back",), ("likeliest", 0, 5))[-6:], [[2], [3], [5], [0], [0], [0]])
+
+    def test_draws_nothing(self):
+        self.assertEqual(ask(*urn(1, 1, 1), ("likeliest", 0, 8), ("told",), ("was",))[-2:], [[2, 1, 1, 1, 0], [0]])
+
+    def test_each_refusal(self):
+        self.assertEqual(last(("begin", 1), ("likeliest", 0, 1)), [-6])
+        self.assertEqual(last(*urn(1, 0), ("likeliest", 0, 1)), [-6])
+        for i in (1, GREATEST):
+            self.assertEqual(last(*urn(1, 1), ("likeliest", i, 1)), [-2])
+        for n in (9, GREATEST):
+            self.assertEqual(last(*urn(1, 1), ("likeliest", 0, n)), [-22])
+
+    def test_which_refusal_comes_first(self):
+        self.assertEqual(last(*urn(1, 0), ("likeliest", 1, 9)), [-6])
+        self.assertEqual(last(*urn(1, 0), ("likeliest", 1, 8)), [-6])
+        self.assertEqual(last(*urn(1, 0), ("likeliest", 0, 9)), [-6])
+        self.assertEqual(last(*urn(1, 1), ("likeliest", 1, 9)), [-2])
 
 
 if __name__ == "__main__":

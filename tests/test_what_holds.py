@@ -1,4 +1,4 @@
-"""Each line of "What holds", as far as it speaks of the calls there are."""
+"""Each line of "What holds"."""
 
 import unittest
 from fractions import Fraction
@@ -19,6 +19,28 @@ class WhatHolds(unittest.TestCase):
             first = last(*urn(more, *balls), row_call(*colours))
             for order in sorted(set(permutations(colours))):
                 self.assertEqual(last(*urn(more, *balls), row_call(*order)), first)
+            for i in range(len(balls)):
+                for j in range(i):
+                    one_way, other_way = ask(*urn(more, *balls), ("two", i, j), ("two", j, i))[-2:]
+                    self.assertEqual(one_way, other_way)
+
+    def test_what_was_drawn_is_as_likely_in_whatever_order(self):
+        for more in range(6):
+            first = last(*urn(more, 1, 2, 3), *draws(0, 0, 1, 2, 2), ("ago",))
+            for order in sorted(set(permutations((0, 0, 1, 2, 2)))):
+                self.assertEqual(last(*urn(more, 1, 2, 3), *draws(*order), ("ago",)), first)
+
+    def test_what_was_drawn_was_as_likely_as_the_row_ahead_of_it(self):
+        for more in range(6):
+            for colours in product(range(3), repeat=4):
+                before, *drawn, behind = ask(*urn(more, 1, 2, 3), row_call(*colours), *draws(*colours), ("ago",))[4:]
+                self.assertEqual(behind, before)
+
+    def test_two_is_a_row_of_two(self):
+        for more, balls in URNS:
+            for i, j in product(range(len(balls)), repeat=2):
+                first, second = ask(*urn(more, *balls), ("two", i, j), row_call(i, j))[-2:]
+                self.assertEqual(first, second)
 
     def test_each_draw_is_as_likely_as_the_first(self):
         for more, balls in URNS:
@@ -26,6 +48,13 @@ class WhatHolds(unittest.TestCase):
                 made = urn(more, *balls)
                 told = ask(*made, ("chance", i), *[("nth", i, n) for n in (1, 2, 3, 8, 60, 61, 999, 1000)])
                 self.assertEqual(told[len(made):], [told[len(made)]] * 9)
+
+    def test_on_the_average_each_draw_adds_as_much_as_the_first(self):
+        for more, balls in URNS:
+            for i in range(len(balls)):
+                for n in (0, 1, 8, 1000):
+                    chance, mean = ask(*urn(more, *balls), ("chance", i), ("mean", i, n))[-2:]
+                    self.assertEqual(as_fraction(mean), n * as_fraction(chance))
 
     def test_so_likely_so_many_of_each_over_all_rows(self):
         for more, balls in URNS:
@@ -40,11 +69,33 @@ class WhatHolds(unittest.TestCase):
         for more, balls in URNS:
             made = urn(more, *balls)
             self.assertEqual(sum(as_fraction(last(*made, ("chance", i))) for i in range(len(balls))), 1)
+            self.assertEqual(sum(as_fraction(last(*made, ("two", i, j)))
+                                 for i, j in product(range(len(balls)), repeat=2)), 1)
+            for n in (0, 1, 60, 1000):
+                self.assertEqual(sum(as_fraction(last(*made, ("mean", i, n))) for i in range(len(balls))), n)
+                self.assertEqual(sum(as_fraction(last(*made, ("then", i, n))) for i in range(len(balls))),
+                                 sum(balls) + more * n)
             for n in (0, 1, 5, 8):
                 self.assertEqual(sum(as_fraction(last(*made, counts_call(*wanted)))
                                      for wanted in all_numbers(len(balls), n)), 1)
                 for i in range(len(balls)):
                     self.assertEqual(sum(as_fraction(last(*made, ("just", i, n, k))) for k in range(n + 1)), 1)
+
+    def test_the_mean_is_that_of_all_numbers(self):
+        for more, balls in URNS:
+            made = urn(more, *balls)
+            for i in range(len(balls)):
+                for n in range(9):
+                    heavy = last(*made, ("all", i, n))[1:]
+                    right = Fraction(sum(k * heavy[k] for k in range(n + 1)), sum(heavy))
+                    self.assertEqual(as_fraction(last(*made, ("mean", i, n))), right)
+
+    def test_one_colour_whichever_is_each_one_together(self):
+        for more, balls in URNS:
+            made = urn(more, *balls)
+            for n in range(1, 9):
+                together = sum(as_fraction(last(*made, ("just", i, n, n))) for i in range(len(balls)))
+                self.assertEqual(as_fraction(last(*made, ("one", n))), together)
 
     def test_just_is_its_part_of_all(self):
         for more, balls in URNS:
@@ -65,6 +116,7 @@ class WhatHolds(unittest.TestCase):
         for n in range(9):
             for k in range(n + 1):
                 self.assertEqual(last(*urn(1, 1, 1), ("just", 0, n, k)), [0, 1, n + 1])
+            self.assertEqual(last(*urn(1, 1, 1), ("likeliest", 0, n)), [0])
 
     def test_one_colour_drawn_is_no_less_likely_the_next(self):
         for more, balls in URNS:
@@ -73,17 +125,20 @@ class WhatHolds(unittest.TestCase):
                     continue
                 before, drawn, behind = ask(*urn(more, *balls), ("chance", i), ("draw", i), ("chance", i))[-3:]
                 self.assertGreaterEqual(as_fraction(behind), as_fraction(before))
+                chance, both = ask(*urn(more, *balls), ("chance", i), ("two", i, i))[-2:]
+                self.assertGreaterEqual(as_fraction(both), as_fraction(chance) ** 2)
 
     def test_taken_back_it_is_as_before(self):
         for more, balls in URNS:
             i = len(balls) - 1
             first = [k for k in range(len(balls)) if balls[k] > 0][0]
             asked = [("chance", i), ("nth", i, 7), row_call(i, 0, i), counts_call(*[1] * len(balls)),
-                     ("just", i, 6, 2), ("all", i, 8)]
+                     ("just", i, 6, 2), ("all", i, 8), ("two", i, first), ("mean", i, 9), ("then", i, 9),
+                     ("likeliest", i, 7), ("one", 3), ("was",), ("ago",), ("told",)]
             made = urn(more, *balls) + draws(first)
             told = ask(*made, *asked, *draws(first, first), ("back",), ("back",), *asked, ("back",), ("back",))
             before = told[len(made):len(made) + len(asked)]
-            self.assertEqual(told[-8:-2], before)
+            self.assertEqual(told[-2 - len(asked):-2], before)
             self.assertEqual(told[-2:], [[first], [-12]])
 
 
